@@ -68,13 +68,58 @@ def apart(first, second):
     return fraction(more, first_sum * second_sum)
 
 
+def are_the_same(first, second):
+    """Whether two spreads tell the same chances, be it in other weights."""
+    return apart(first, second) == [0, 1]
+
+
+def twos_of(n):
+    """Each two of n places, the lesser first: by the lesser, then by the other one."""
+    twos = []
+    for i in range(n):
+        twos.extend([(i, j) for j in range(i + 1, n)])
+    return twos
+
+
+def farthest_two(spreads):
+    """The first two of the spreads, 2 or more, that are the farthest apart."""
+    # Either order of two spreads gives the same, so each two is looked at once.
+    twos = twos_of(len(spreads))
+    found = twos[0]
+    greatest = apart(spreads[found[0]], spreads[found[1]])
+    for two in twos:
+        here = apart(spreads[two[0]], spreads[two[1]])
+        if is_greater(here, greatest):
+            found = two
+            greatest = here
+    return found
+
+
 def farthest(spreads):
     """The greatest that any two of the spreads are apart, a fraction."""
-    # Either order of two spreads gives the same, so each two is looked at once.
+    if len(spreads) == 1:
+        return [0, 1]
+    two = farthest_two(spreads)
+    return apart(spreads[two[0]], spreads[two[1]])
+
+
+def rows_of(tables, steps):
+    """Every row of so many tables."""
+    rows = [[]]
+    while steps > 0:
+        longer = []
+        for row in rows:
+            longer.extend([row + [table] for table in tables])
+        rows = longer
+        steps -= 1
+    return rows
+
+
+def farthest_of_steps(n, tables, steps):
+    """The greatest of the farthest by every row of so many tables, a fraction; 0 where there's no such row."""
     greatest = [0, 1]
-    for j in range(len(spreads)):
-        for i in range(j):
-            here = apart(spreads[i], spreads[j])
-            if is_greater(here, greatest):
-                greatest = here
+    for row in rows_of(tables, steps):
+        here = farthest(behind_row_of_each(n, row))
+        if is_greater(here, greatest):
+            greatest = here
     return greatest

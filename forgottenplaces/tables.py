@@ -12,9 +12,16 @@ CHANCES_FROM = 6
 SPREAD = 7
 FAR = 8
 DELTA = 9
+WORST = 10
+MOST = 11
+MIXES = 12
+STEPS = 13
+KEPT = 14
+BEGUN = 15
+STAYS = 16
+BACK = 17
 
-# Of each call, by its number: how many whole numbers it has, then how many rows. All calls of the document
-# are here, for each of them can come ahead of a begin, and then must be read to be answered.
+# Of each call, by its number: how many whole numbers it has, then how many rows.
 FORMS = (
     (1, 0), (0, 1), (4, 0), (1, 0), (1, 0), (0, 1), (1, 1), (0, 2), (2, 1), (0, 1),
     (0, 1), (1, 0), (0, 1), (0, 0), (0, 0), (1, 0), (1, 1), (0, 0), (0, 0),
@@ -45,13 +52,33 @@ def look_answer(places, number, wholes, rows):
         return places.word(rows[0])
     if number == CHANCES_FROM:
         return places.chances_from(wholes[0], rows[0])
-    if number == SPREAD:
-        return places.spread(rows[0], rows[1])
+    return places.spread(rows[0], rows[1])
+
+
+def apart_answer(places, number, wholes, rows):
     if number == FAR:
         return places.far(wholes[0], wholes[1], rows[0])
     if number == DELTA:
         return places.delta(rows[0])
-    raise NotImplementedError(f"call {number} is not built yet")
+    if number == WORST:
+        return places.worst(rows[0])
+    if number == MOST:
+        return places.most(wholes[0])
+    if number == MIXES:
+        return places.mixes(rows[0])
+    if number == STEPS:
+        return places.steps()
+    if number == KEPT:
+        return places.kept()
+    return places.begun(wholes[0])
+
+
+def last_calls_answer(places, number, wholes, rows):
+    if number == STAYS:
+        return places.stays(wholes[0], rows[0])
+    if number == BACK:
+        return places.back()
+    return places.state()
 
 
 def answer_to(places, number, wholes, rows):
@@ -61,7 +88,11 @@ def answer_to(places, number, wholes, rows):
         return [NOT_BEGUN]
     if number <= DROP:
         return change_answer(places, number, wholes, rows)
-    return look_answer(places, number, wholes, rows)
+    if number <= SPREAD:
+        return look_answer(places, number, wholes, rows)
+    if number <= BEGUN:
+        return apart_answer(places, number, wholes, rows)
+    return last_calls_answer(places, number, wholes, rows)
 
 
 def answers(calls):

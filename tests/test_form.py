@@ -64,7 +64,9 @@ class FormTest(unittest.TestCase):
                 self.assertEqual(node.orelse, [], (name, node.lineno))
             if isinstance(node, ast.ListComp):
                 self.assertEqual(len(node.generators), 1, (name, node.lineno))
-            self.assertNotIsInstance(node, (ast.Div, ast.MatMult, ast.Is, ast.IsNot), name)
+            self.assertNotIsInstance(node, (ast.Div, ast.MatMult), name)
+            if isinstance(node, ast.Compare) and isinstance(node.ops[0], (ast.Is, ast.IsNot)):
+                self.assertIn(ast.unparse(node.comparators[0]), ("None", "True", "False"), (name, node.lineno))
 
     def test_names(self):
         own_methods = {node.name for name, node in self.nodes() if isinstance(node, ast.FunctionDef)}

@@ -1,4 +1,4 @@
-"""Promise 3 (show, word, chances_from, spread) and promise 4 (far, delta)."""
+"""Promise 3 (show, word, chances_from, spread, stays), of promise 4 far and delta, and rows by all calls that have one."""
 
 import unittest
 
@@ -105,6 +105,40 @@ class SpreadTest(unittest.TestCase):
         self.assertEqual(last(TWO, HALVES, ("spread", [1, 1], [0] * 9)), [-22])
 
 
+class StaysTest(unittest.TestCase):
+    def test_a_spread_that_stays(self):
+        self.assertEqual(last(TWO, HALVES, ("stays", 0, [1, 2])), [1])
+        self.assertEqual(last(TWO, EXCHANGE, ("stays", 0, [3, 3])), [1])
+        self.assertEqual(last(TWO, STAY, ("stays", 0, [0, 99])), [1])
+        self.assertEqual(last(THREE, ("table", [0, 1, 0, 0, 0, 1, 1, 0, 0]), ("stays", 0, [7, 7, 7])), [1])
+        self.assertEqual(last(("begin", 1), ("table", [4]), ("stays", 0, [50])), [1])
+
+    def test_the_same_chances_in_other_weights(self):
+        for times in range(1, 50):
+            self.assertEqual(last(TWO, HALVES, ("stays", 0, [times, 2 * times])), [1])
+            self.assertEqual(last(TWO, HALVES, ("stays", 0, [times + 1, 2 * times])), [0])
+
+    def test_one_that_does_not(self):
+        self.assertEqual(last(TWO, HALVES, ("stays", 0, [1, 1])), [0])
+        self.assertEqual(last(TWO, EXCHANGE, ("stays", 0, [3, 4])), [0])
+        self.assertEqual(last(TWO, EXCHANGE, ("stays", 0, [0, 1])), [0])
+        self.assertEqual(last(THREE, ("table", [1, 0, 0, 0, 0, 1, 0, 1, 0]), ("stays", 0, [5, 1, 2])), [0])
+
+    def test_by_that_table(self):
+        line = [TWO, EXCHANGE, STAY, HALVES]
+        self.assertEqual(ask(*line, *[("stays", k, [1, 2]) for k in range(4)])[4:], [[0], [1], [1], [-2]])
+
+    def test_no_such_table(self):
+        for k in (1, 3, 4294967295):
+            self.assertEqual(last(TWO, HALVES, ("stays", k, [1, 2])), [-2])
+        self.assertEqual(last(TWO, ("stays", 0, [1, 2])), [-2])
+
+    def test_not_a_spread(self):
+        for weights in ([], [1], [1, 2, 0], [1] * 6, [0, 0], [100, 1], [1, 100], [65535, 65535]):
+            self.assertEqual(last(TWO, HALVES, ("stays", 0, weights)), [-22])
+            self.assertEqual(last(TWO, HALVES, ("stays", 1, weights)), [-2])
+
+
 class FarTest(unittest.TestCase):
     def test_ordinary(self):
         self.assertEqual(last(TWO, HALVES, ("far", 0, 1, [0])), [0, 1, 4])
@@ -159,12 +193,13 @@ class RowTest(unittest.TestCase):
     """What is refused of a row of tables, by each call that has one."""
 
     def calls(self, row):
-        return [("word", row), ("chances_from", 0, row), ("spread", [1, 1], row), ("far", 0, 1, row), ("delta", row)]
+        return [("word", row), ("chances_from", 0, row), ("spread", [1, 1], row), ("far", 0, 1, row), ("delta", row),
+                ("worst", row), ("mixes", row)]
 
     def test_no_such_table(self):
         for row in ([1], [0, 1], [1, 0], [65535], [0] * 7 + [1]):
-            self.assertEqual(ask(TWO, HALVES, *self.calls(row))[2:], [[-2]] * 5)
-        self.assertEqual(ask(TWO, *self.calls([0]))[1:], [[-2]] * 5)
+            self.assertEqual(ask(TWO, HALVES, *self.calls(row))[2:], [[-2]] * 7)
+        self.assertEqual(ask(TWO, *self.calls([0]))[1:], [[-2]] * 7)
 
     def test_eight_tables_are_taken(self):
         for told in ask(TWO, HALVES, *self.calls([0] * 8)):
@@ -172,14 +207,14 @@ class RowTest(unittest.TestCase):
 
     def test_more_than_eight(self):
         for size in (9, 16):
-            self.assertEqual(ask(TWO, HALVES, *self.calls([0] * size))[2:], [[-22]] * 5)
+            self.assertEqual(ask(TWO, HALVES, *self.calls([0] * size))[2:], [[-22]] * 7)
 
     def test_no_such_is_ahead_of_more_than_eight(self):
         for row in ([0] * 8 + [1], [1] * 9, [1] + [0] * 15):
-            self.assertEqual(ask(TWO, HALVES, *self.calls(row))[2:], [[-2]] * 5)
+            self.assertEqual(ask(TWO, HALVES, *self.calls(row))[2:], [[-2]] * 7)
 
     def test_a_dropped_table_is_refused(self):
-        self.assertEqual(ask(TWO, HALVES, EXCHANGE, ("drop", 0), *self.calls([1]))[4:], [[-2]] * 5)
+        self.assertEqual(ask(TWO, HALVES, EXCHANGE, ("drop", 0), *self.calls([1]))[4:], [[-2]] * 7)
 
     def test_looking_changes_nothing(self):
         line = [TWO, HALVES, EXCHANGE, STAY]
